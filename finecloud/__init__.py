@@ -1,0 +1,1 @@
+"""finecloud: clouds of points told bit by bit."""

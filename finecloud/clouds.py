@@ -1,0 +1,88 @@
+"""Clouds: sets of points, kept as the ascending row of their woven numbers."""
+
+from finecloud.errors import BadPoint
+
+
+class Cloud:
+    """A set of points of a space."""
+
+    def __init__(self, space, points):
+        self.space = space
+        self.row = _row_of(space, points)
+
+    def __eq__(self, other):
+        return isinstance(other, Cloud) and self.space == other.space and self.row == other.row
+
+    def points(self):
+        """The points, ascending by their woven numbers."""
+        return tuple([self.space.point_of(number) for number in self.row])
+
+    def many(self):
+        """How many points there are."""
+        return len(self.row)
+
+    def has(self, point):
+        """Whether a point is in the cloud; what is no point is wrong."""
+        number = self.space.woven(point)
+        return _place(self.row, number) < _place(self.row, number + 1)
+
+    def count(self, prefix):
+        """How many points of the cloud are of a prefix."""
+        size = self.space.size(prefix)
+        first = prefix[1] * size
+        return _place(self.row, first + size) - _place(self.row, first)
+
+    def added(self, point):
+        """The cloud with one more point."""
+        if self.has(point):
+            raise BadPoint(point)
+        number = self.space.woven(point)
+        at = _place(self.row, number)
+        return cloud_of(self.space, self.row[:at] + (number,) + self.row[at:])
+
+    def removed(self, point):
+        """The cloud without one of its points."""
+        if not self.has(point):
+            raise BadPoint(point)
+        at = _place(self.row, self.space.woven(point))
+        return cloud_of(self.space, self.row[:at] + self.row[at + 1:])
+
+    def view(self, fineness):
+        """The prefixes of this length that have points, with their counts."""
+        left = self.space.depth - fineness
+        counts = {}
+        for number in self.row:
+            prefix = number >> left
+            counts[prefix] = counts.get(prefix, 0) + 1
+        return tuple(counts.items())
+
+
+def cloud_of(space, numbers):
+    """The cloud of the points with these woven numbers."""
+    cloud = Cloud(space, ())
+    cloud.row = tuple(sorted(numbers))
+    return cloud
+
+
+def _row_of(space, points):
+    """The ascending woven numbers of points; the first one that is no point, or stands there twice, is wrong."""
+    seen = set()
+    for point in points:
+        number = space.woven(point)
+        if number in seen:
+            raise BadPoint(point)
+        seen.add(number)
+    return tuple(sorted(seen))
+
+
+def _place(row, number):
+    """How many numbers of an ascending row are less than a number."""
+    low = 0
+    high = len(row)
+    while low < high:
+        middle = (low + high) // 2
+        if row[middle] < number:
+            low = middle + 1
+        else:
+            high = middle
+    return low

@@ -1,0 +1,68 @@
+"""The section "The interface": every name stands in its file, with its arguments, methods in their class itself."""
+
+import inspect
+import unittest
+from importlib import import_module
+
+from finecloud.clouds import Cloud
+from finecloud.space import Box, Space
+
+FUNCTIONS = {
+    "numbers": ("power(times)", "choices(many, some)", "bits_for(many)", "bits_of(number, many)", "number_of(bits)"),
+    "space": ("prefixes_of(box)", "is_inside(prefix, other)"),
+    "clouds": ("cloud_of(space, numbers)",),
+    "ranks": ("all_clouds(space, many)", "completions(space, fineness, view)", "rank(cloud)",
+              "cloud_at(space, many, number)", "whole_code(cloud)", "whole_of(space, many, bits)"),
+    "progress": ("code_of(cloud)", "beginning(cloud, fineness)", "read_code(space, many, bits)",
+                 "check_whole(space, many, bits)"),
+    "beating": ("is_code(lengths)", "told_shorter(space, many, fineness, lengths, fewer)",
+                "views_of(space, many, fineness)"),
+}
+
+CLASSES = {
+    ("space", "Space(dimensions, bits)"): ("is_point(self, thing)", "woven(self, point)", "point_of(self, number)",
+                                           "is_prefix(self, thing)", "size(self, prefix)", "cell(self, prefix)",
+                                           "__eq__(self, other)"),
+    ("space", "Box(space, lows, highs)"): ("holds(self, point)", "room(self, prefix)"),
+    ("clouds", "Cloud(space, points)"): ("points(self)", "many(self)", "has(self, point)", "count(self, prefix)",
+                                         "added(self, point)", "removed(self, point)", "view(self, fineness)",
+                                         "__eq__(self, other)"),
+    ("errors", "BadSpace(word)"): (),
+    ("errors", "BadPoint(point)"): (),
+    ("errors", "BadCode(many)"): (),
+    ("errors", "BadPiece(prefix)"): (),
+}
+
+
+def told(name, thing):
+    return name + str(inspect.signature(thing))
+
+
+class Interface(unittest.TestCase):
+    def test_functions(self):
+        for file, rows in FUNCTIONS.items():
+            module = import_module("finecloud." + file)
+            for row in rows:
+                name = row.split("(")[0]
+                thing = getattr(module, name)
+                self.assertTrue(inspect.isfunction(thing))
+                self.assertEqual((told(name, thing), thing.__module__), (row, "finecloud." + file))
+
+    def test_classes(self):
+        for (file, row), methods in CLASSES.items():
+            name = row.split("(")[0]
+            thing = getattr(import_module("finecloud." + file), name)
+            self.assertEqual((told(name, thing), thing.__module__), (row, "finecloud." + file))
+            for method in methods:
+                own = vars(thing)[method.split("(")[0]]
+                self.assertEqual(told(own.__name__, own), method)
+
+    def test_attributes_are_set_when_an_object_is_created(self):
+        space = Space(2, 3)
+        self.assertLessEqual({"dimensions", "bits", "depth", "side"}, set(vars(space)))
+        self.assertLessEqual({"space", "lows", "highs"}, set(vars(Box(space, (0, 0), (1, 1)))))
+        self.assertLessEqual({"space", "row"}, set(vars(Cloud(space, ()))))
+
+
+if __name__ == "__main__":
+    unittest.main()
