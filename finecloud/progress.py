@@ -66,7 +66,7 @@ def _is_within(number, length, low, share, every):
 
 def _read_level(level, bits):
     """(next view, how many bits tell it); both are None if the bits don't tell one."""
-    # Level codes need no more bits than this; so the many bits of later levels are looked at for odd bits only.
+    # No level code is longer than this; bits that no code has may need more, along the edge of a share.
     enough = bits_for(level.cells.ways) + 2
     finer, length = _read_part(level, bits[:enough])
     if finer is None and len(bits) > enough:
@@ -75,7 +75,8 @@ def _read_level(level, bits):
 
 
 def _read_part(level, bits):
-    """As _read_level, with a look at all bits: a share that their interval lies in has its lower end."""
+    """As _read_level, with a look at all of the bits."""
+    # Only the share that has the lower end of their interval can have the whole of it.
     every = level.cells.ways
     number = number_of(bits)
     finer, low, share = level.found(number * every >> len(bits))
