@@ -1,13 +1,16 @@
 """Beating the worth: of any code, how many clouds it can tell in fewer bits."""
 
 from finecloud.levels import first_view, is_so_many
-from finecloud.numbers import power
+from finecloud.numbers import power, shifted
 from finecloud.ranks import all_clouds, completions
 
 
 def is_code(lengths):
     """Whether there is a code with these lengths of words: whether the sum of 2^-length is at most 1."""
     row = sorted(list(lengths.values()), reverse=True)
+    # A word of a length below 0 is more than 1 alone.
+    if row and row[-1] < 0:
+        return False
     # The sum is told in words of the length at hand, from the longest one up. Rounding up does no harm:
     # what the shorter words leave of 1 is a whole number of words of that length.
     words = 0
@@ -29,7 +32,7 @@ def told_shorter(space, many, fineness, lengths, fewer):
     told = 0
     for view, length in lengths.items():
         clouds = completions(space, fineness, view)
-        if clouds <= every >> (length + fewer):
+        if clouds <= shifted(every, -length - fewer):
             told = told + clouds
     return told
 
@@ -39,7 +42,7 @@ def views_of(space, many, fineness):
     if not is_so_many(space, many):
         return []
     views = [first_view(many)]
-    for length in range(fineness):
+    for length in range(min(fineness, space.depth)):
         half = power(space.depth - length - 1)
         views = [finer for view in views for finer in _next_views(half, view)]
     return sorted(views)

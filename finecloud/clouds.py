@@ -48,8 +48,8 @@ class Cloud:
         return cloud_of(self.space, self.row[:at] + self.row[at + 1:])
 
     def view(self, fineness):
-        """The prefixes of this length that have points, with their counts."""
-        left = self.space.depth - fineness
+        """The prefixes of this length that have points, with their counts; beyond the depth nothing is finer."""
+        left = max(0, self.space.depth - fineness)
         counts = {}
         for number in self.row:
             prefix = number >> left

@@ -9,8 +9,15 @@ def is_between(thing, least, most):
 
 
 def power(times):
-    """2, so many times by itself."""
-    return 1 << times
+    """2, so many times by itself; 0 for times below 0."""
+    return shifted(1, times)
+
+
+def shifted(number, times):
+    """A number doubled so many times; for times below 0 halved as many times, and rounded down."""
+    if times < 0:
+        return number >> -times
+    return number << times
 
 
 def parts_up(many, part):
@@ -31,11 +38,11 @@ def bits_for(many):
 
 
 def bits_of(number, many):
-    """A number below 2 to the many as so many bits, the greatest place first."""
+    """A number below 2 to the many as so many bits, the greatest place first; of other numbers the last bits."""
     # The text of the number 0 is one sign long, but no bits at all write it, too.
-    if many == 0:
+    if many <= 0:
         return ()
-    text = f"{number:b}"
+    text = f"{number & power(many) - 1:b}"
     return tuple([int(sign) for sign in text.zfill(many)])
 
 

@@ -44,7 +44,7 @@ def check_whole(space, many, bits):
 
 
 def _codes(cloud, fineness):
-    return [_level_code(cloud, level) for level in range(fineness)]
+    return [_level_code(cloud, level) for level in range(min(fineness, cloud.space.depth))]
 
 
 def _level_code(cloud, fineness):

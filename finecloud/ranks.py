@@ -13,7 +13,7 @@ def all_clouds(space, many):
 
 def completions(space, fineness, view):
     """How many clouds have a view: each prefix is filled by itself."""
-    size = space.size((fineness, 0))
+    size = power(max(0, space.depth - fineness))
     return multiplied([choices(size, count) for _, count in view])
 
 

@@ -54,13 +54,16 @@ class Space:
         return is_between(length, 0, self.depth) and is_between(number, 0, power(length) - 1)
 
     def size(self, prefix):
-        """How many points are of a prefix."""
+        """How many points are of a prefix; none are of one that is longer than their bits."""
         return power(self.depth - prefix[0])
 
     def cell(self, prefix):
         """The lowest and the highest corner of the points of a prefix."""
         size = self.size(prefix)
         first = prefix[1] * size
+        if size == 0:
+            # No point lies between corners the wrong way round.
+            return self.point_of(-1), self.point_of(0)
         return self.point_of(first), self.point_of(first + size - 1)
 
 
