@@ -1,6 +1,7 @@
 """Clouds: sets of points, kept as the ascending row of their woven numbers."""
 
 from finecloud.errors import BadPoint
+from finecloud.numbers import place_in
 
 
 class Cloud:
@@ -24,27 +25,27 @@ class Cloud:
     def has(self, point):
         """Whether a point is in the cloud; what is no point is wrong."""
         number = self.space.woven(point)
-        return _place(self.row, number) < _place(self.row, number + 1)
+        return place_in(self.row, number) < place_in(self.row, number + 1)
 
     def count(self, prefix):
         """How many points of the cloud are of a prefix."""
         size = self.space.size(prefix)
         first = prefix[1] * size
-        return _place(self.row, first + size) - _place(self.row, first)
+        return place_in(self.row, first + size) - place_in(self.row, first)
 
     def added(self, point):
         """The cloud with one more point."""
         if self.has(point):
             raise BadPoint(point)
         number = self.space.woven(point)
-        at = _place(self.row, number)
+        at = place_in(self.row, number)
         return cloud_of(self.space, self.row[:at] + (number,) + self.row[at:])
 
     def removed(self, point):
         """The cloud without one of its points."""
         if not self.has(point):
             raise BadPoint(point)
-        at = _place(self.row, self.space.woven(point))
+        at = place_in(self.row, self.space.woven(point))
         return cloud_of(self.space, self.row[:at] + self.row[at + 1:])
 
     def view(self, fineness):
@@ -73,16 +74,3 @@ def _row_of(space, points):
             raise BadPoint(point)
         seen.add(number)
     return tuple(sorted(seen))
-
-
-def _place(row, number):
-    """How many numbers of an ascending row are less than a number."""
-    low = 0
-    high = len(row)
-    while low < high:
-        middle = (low + high) // 2
-        if row[middle] < number:
-            low = middle + 1
-        else:
-            high = middle
-    return low

@@ -4,17 +4,18 @@ from finecloud.numbers import choices, power
 
 
 class Split:
-    """A cell split in halves: how many points the first one gets, in how many ways, and how many ways are ahead."""
+    """Points split on a left and a right room: how many the left gets, in how many ways, how many ways are ahead."""
 
-    def __init__(self, half, total):
-        self.half = half
+    def __init__(self, left, right, total):
+        self.left = left
+        self.right = right
         self.total = total
-        self.first = max(0, total - half)
+        self.first = max(0, total - right)
         self.low = 0
-        self.share = choices(half, self.first) * choices(half, total - self.first)
+        self.share = choices(left, self.first) * choices(right, total - self.first)
 
     def go_to(self, first):
-        """To the split that gives so many points to the first half."""
+        """To the split that gives so many points to the left room."""
         while self.first < first:
             self._go_on()
 
@@ -25,9 +26,9 @@ class Split:
 
     def _go_on(self):
         self.low = self.low + self.share
-        more = (self.half - self.first) * (self.total - self.first)
+        more = (self.left - self.first) * (self.total - self.first)
         self.first = self.first + 1
-        less = self.first * (self.half - self.total + self.first)
+        less = self.first * (self.right - self.total + self.first)
         self.share = self.share * more // less
 
 
@@ -52,7 +53,7 @@ class Cells:
     def place(self, firsts):
         """(low, share): how many ways are ahead of a split, and how many ways have it."""
         if not self.middle:
-            split = Split(self.half, sum(self.totals))
+            split = Split(self.half, self.half, sum(self.totals))
             split.go_to(sum(firsts))
             return split.low, split.share
         low, share = self.left.place(firsts[:self.middle])
@@ -62,7 +63,7 @@ class Cells:
     def found(self, number):
         """(firsts, low, share) of the split that the way with a number has."""
         if not self.middle:
-            split = Split(self.half, sum(self.totals))
+            split = Split(self.half, self.half, sum(self.totals))
             split.go_over(number)
             return [split.first for _ in self.totals], split.low, split.share
         others = self.right.ways

@@ -49,3 +49,16 @@ def bits_of(number, many):
 def number_of(bits):
     """The number that bits write."""
     return int("0" + "".join([str(bit) for bit in bits]), 2)
+
+
+def place_in(row, number):
+    """How many numbers of an ascending row are less than a number."""
+    low = 0
+    high = len(row)
+    while low < high:
+        middle = (low + high) // 2
+        if row[middle] < number:
+            low = middle + 1
+        else:
+            high = middle
+    return low

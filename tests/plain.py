@@ -91,3 +91,84 @@ def unlike(many, seed, below):
         number = (number * 6364136223846793005 + 1442695040888963407) % 2 ** 64
         found[(number >> 20) % below] = True
     return list(found)
+
+
+def some(many, seed, things):
+    """So many of some things (all, if there are fewer), without any order, the same each time."""
+    return [things[place] for place in unlike(min(many, len(things)), seed, len(things))]
+
+
+def prefixes(depth):
+    return [(length, number) for length in range(depth + 1) for number in range(2 ** length)]
+
+
+def boxes(dimensions, bits):
+    """The corners of all boxes."""
+    every = points(dimensions, bits)
+    return [(lows, highs) for lows, highs in product(every, every)
+            if all(low <= high for low, high in zip(lows, highs))]
+
+
+def square(one, other):
+    return sum((part - beside) ** 2 for part, beside in zip(one, other))
+
+
+class AllClouds:
+    """All clouds of a small space: of a cloud's number the bits are its points, of a lot's number its clouds."""
+
+    def __init__(self, depth):
+        self.depth = depth
+        self.every = 2 ** 2 ** 2 ** depth - 1
+        self.prefixes = prefixes(depth)
+        self.points = {}
+        self.kept = {}
+        for length, number in self.prefixes:
+            size = 2 ** (depth - length)
+            self.points[length, number] = (2 ** size - 1) << number * size
+
+    def numbers(self):
+        return range(2 ** 2 ** self.depth)
+
+    def row(self, cloud):
+        return tuple(number for number in range(2 ** self.depth) if cloud >> number & 1)
+
+    def count(self, cloud, prefix):
+        return bin(cloud & self.points[prefix]).count("1")
+
+    def having(self, prefix, count):
+        """The lot of the clouds with this count."""
+        if prefix not in self.kept:
+            lots = [0] * (2 ** self.depth + 1)
+            for cloud in self.numbers():
+                lots[self.count(cloud, prefix)] += 2 ** cloud
+            self.kept[prefix] = lots
+        return self.kept[prefix][count]
+
+    def lot(self, facts):
+        """The lot of the clouds that have all facts."""
+        lot = self.every
+        for prefix, count in facts.items():
+            lot &= self.having(prefix, count)
+        return lot
+
+    def of_lot(self, lot):
+        return [cloud for cloud in self.numbers() if lot >> cloud & 1]
+
+    def known(self, lot, prefix):
+        """The count that all clouds of a lot have, if they agree."""
+        cloud = lot.bit_length() - 1
+        count = self.count(cloud, prefix)
+        return count if lot & ~self.having(prefix, count) == 0 else None
+
+    def told(self, cloud, prefixes):
+        """The lot of the clouds that have the counts that a cloud has."""
+        return self.lot({prefix: self.count(cloud, prefix) for prefix in prefixes})
+
+    def mixed(self, many, seed):
+        """So many facts that one cloud has, each of which may be one off."""
+        cloud, *places = unlike(many + 1, seed, 2 ** 20)
+        found = {}
+        for place in places:
+            prefix = self.prefixes[place % len(self.prefixes)]
+            found[prefix] = self.count(cloud & 2 ** 2 ** self.depth - 1, prefix) + (place // 64 % 4 == 0)
+        return found

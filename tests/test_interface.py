@@ -5,6 +5,8 @@ import unittest
 from importlib import import_module
 
 from finecloud.clouds import Cloud
+from finecloud.edits import Edit
+from finecloud.pieces import Knowledge
 from finecloud.space import Box, Space
 
 FUNCTIONS = {
@@ -17,6 +19,13 @@ FUNCTIONS = {
                  "check_whole(space, many, bits)"),
     "beating": ("is_code(lengths)", "told_shorter(space, many, fineness, lengths, fewer)",
                 "views_of(space, many, fineness)"),
+    "pieces": ("piece_of(cloud, prefix, deeper)",),
+    "edits": ("edit_between(one, other)", "edited(cloud, edit)", "turned(edit)", "merged(cloud, one, other)",
+              "edits_many(cloud, gone, come)", "edit_code(cloud, edit)", "edit_of(cloud, gone, come, bits)"),
+    "balls": ("square_between(one, other)", "least_square(space, centre, prefix)",
+              "greatest_square(space, centre, prefix)", "halves_of(prefix)"),
+    "asking": ("count_in(cloud, box)", "points_in(cloud, box)", "nearest(cloud, centre, many)",
+               "nearest_plain(cloud, centre, many)"),
 }
 
 CLASSES = {
@@ -27,6 +36,12 @@ CLASSES = {
     ("clouds", "Cloud(space, points)"): ("points(self)", "many(self)", "has(self, point)", "count(self, prefix)",
                                          "added(self, point)", "removed(self, point)", "view(self, fineness)",
                                          "__eq__(self, other)"),
+    ("pieces", "Knowledge(space, facts)"): ("joined(self, other)", "bounds(self, region)",
+                                            "some_cloud(self, region, is_most)", "known(self, prefix)",
+                                            "__eq__(self, other)"),
+    ("edits", "Edit(gone, come)"): ("__eq__(self, other)",),
+    ("balls", "Ball(space, centre, square)"): ("holds(self, point)", "room(self, prefix)"),
+    ("balls", "Lone(space, point)"): ("holds(self, point)", "room(self, prefix)"),
     ("errors", "BadSpace(word)"): (),
     ("errors", "BadPoint(point)"): (),
     ("errors", "BadCode(many)"): (),
@@ -62,6 +77,8 @@ class Interface(unittest.TestCase):
         self.assertLessEqual({"dimensions", "bits", "depth", "side"}, set(vars(space)))
         self.assertLessEqual({"space", "lows", "highs"}, set(vars(Box(space, (0, 0), (1, 1)))))
         self.assertLessEqual({"space", "row"}, set(vars(Cloud(space, ()))))
+        self.assertLessEqual({"space", "facts"}, set(vars(Knowledge(space, {}))))
+        self.assertLessEqual({"gone", "come"}, set(vars(Edit((), ()))))
 
 
 if __name__ == "__main__":
