@@ -8,6 +8,7 @@ from finecloud.clouds import Cloud
 from finecloud.edits import Edit
 from finecloud.pieces import Knowledge
 from finecloud.space import Box, Space
+from finecloud.talks import Talk
 
 FUNCTIONS = {
     "numbers": ("power(times)", "choices(many, some)", "bits_for(many)", "bits_of(number, many)", "number_of(bits)"),
@@ -26,6 +27,9 @@ FUNCTIONS = {
               "greatest_square(space, centre, prefix)", "halves_of(prefix)"),
     "asking": ("count_in(cloud, box)", "points_in(cloud, box)", "nearest(cloud, centre, many)",
                "nearest_plain(cloud, centre, many)"),
+    "certain": ("nearest_bounds(knowledge, centre, many)", "is_possible(knowledge, centre, point)",
+                "is_sure(knowledge, centre, point)"),
+    "telling": ("fewest_facts(cloud, knowledge, box, fineness)", "is_enough(knowledge, box, fineness)"),
 }
 
 CLASSES = {
@@ -42,6 +46,8 @@ CLASSES = {
     ("edits", "Edit(gone, come)"): ("__eq__(self, other)",),
     ("balls", "Ball(space, centre, square)"): ("holds(self, point)", "room(self, prefix)"),
     ("balls", "Lone(space, point)"): ("holds(self, point)", "room(self, prefix)"),
+    ("talks", "Talk(cloud, box, fineness)"): ("send(self)", "report(self)", "deliver(self, at, is_kept)",
+                                              "lose(self, at)", "is_done(self)"),
     ("errors", "BadSpace(word)"): (),
     ("errors", "BadPoint(point)"): (),
     ("errors", "BadCode(many)"): (),
@@ -79,6 +85,8 @@ class Interface(unittest.TestCase):
         self.assertLessEqual({"space", "row"}, set(vars(Cloud(space, ()))))
         self.assertLessEqual({"space", "facts"}, set(vars(Knowledge(space, {}))))
         self.assertLessEqual({"gone", "come"}, set(vars(Edit((), ()))))
+        talk = Talk(Cloud(space, ()), Box(space, (0, 0), (1, 1)), 3)
+        self.assertLessEqual({"cloud", "box", "fineness", "seen", "reported", "letters"}, set(vars(talk)))
 
 
 if __name__ == "__main__":
