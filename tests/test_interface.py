@@ -8,6 +8,7 @@ from finecloud.clouds import Cloud
 from finecloud.edits import Edit
 from finecloud.pieces import Knowledge
 from finecloud.space import Box, Space
+from finecloud.stores import Store
 from finecloud.talks import Talk
 
 FUNCTIONS = {
@@ -30,6 +31,10 @@ FUNCTIONS = {
     "certain": ("nearest_bounds(knowledge, centre, many)", "is_possible(knowledge, centre, point)",
                 "is_sure(knowledge, centre, point)"),
     "telling": ("fewest_facts(cloud, knowledge, box, fineness)", "is_enough(knowledge, box, fineness)"),
+    "versions": ("rows_between(one, other)", "rows_edited(points, edit)"),
+    "stores": ("line_of(number, row)", "versions_behind(store, cut)"),
+    "motions": ("turned_by(point, turn)", "moved(point, motion)", "turns_of(many, are_mirrored)",
+                "is_proper(axes, signs)", "still(many)", "behind(first, second)", "undone(motion)"),
 }
 
 CLASSES = {
@@ -48,10 +53,15 @@ CLASSES = {
     ("balls", "Lone(space, point)"): ("holds(self, point)", "room(self, prefix)"),
     ("talks", "Talk(cloud, box, fineness)"): ("send(self)", "report(self)", "deliver(self, at, is_kept)",
                                               "lose(self, at)", "is_done(self)"),
+    ("versions", "History()"): ("many(self)", "put(self, number, points)", "points(self, number)",
+                                "above(self, number)", "common(self, one, other)", "joined(self, one, other)"),
+    ("stores", "Store(text)"): ("put(self, number, points)", "sync(self)", "settled(self)", "fallen(self, cut)"),
     ("errors", "BadSpace(word)"): (),
     ("errors", "BadPoint(point)"): (),
     ("errors", "BadCode(many)"): (),
     ("errors", "BadPiece(prefix)"): (),
+    ("storeerrors", "BadVersion(number)"): (),
+    ("storeerrors", "BadCut(place)"): (),
 }
 
 
@@ -87,6 +97,7 @@ class Interface(unittest.TestCase):
         self.assertLessEqual({"gone", "come"}, set(vars(Edit((), ()))))
         talk = Talk(Cloud(space, ()), Box(space, (0, 0), (1, 1)), 3)
         self.assertLessEqual({"cloud", "box", "fineness", "seen", "reported", "letters"}, set(vars(talk)))
+        self.assertLessEqual({"history", "text", "loose"}, set(vars(Store(""))))
 
 
 if __name__ == "__main__":

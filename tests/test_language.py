@@ -22,7 +22,7 @@ BUILTINS = set("""len range enumerate zip min max sum abs sorted reversed int st
 
 METHODS = set("""append clear copy count endswith extend find get index insert isalnum isalpha isdigit islower isspace
     isupper items join keys ljust lower lstrip partition pop remove replace reverse rfind rjust rpartition rsplit rstrip
-    setdefault split splitlines startswith strip update upper values zfill bit_length add discard""".split())
+    setdefault split splitlines startswith strip update upper values zfill bit_length add discard isascii""".split())
 
 SPECIAL = {"__init__", "__eq__", "__repr__", "__str__", "__len__"}
 

@@ -10,11 +10,13 @@ from finecloud.certain import nearest_bounds
 from finecloud.clouds import cloud_of
 from finecloud.edits import edit_of, edits_many
 from finecloud.errors import BadCode, BadPoint
+from finecloud.motions import behind, is_proper, moved, still, turned_by, turns_of, undone
 from finecloud.numbers import bits_for, bits_of, choices, power
 from finecloud.pieces import Knowledge, piece_of
 from finecloud.progress import beginning, check_whole, read_code
 from finecloud.ranks import all_clouds, cloud_at, completions, whole_of
 from finecloud.space import Box, Space, is_inside
+from finecloud.stores import Store, line_of, versions_behind
 from finecloud.telling import is_enough
 from tests import plain
 
@@ -123,6 +125,29 @@ class Beyond(unittest.TestCase):
             clouds = {view: sum(plain.view(2, row, 1) == view for row in plain.rows(2, 2)) for view in lengths}
             told = sum(count for view, count in clouds.items() if 2 ** (lengths[view] + fewer) * count <= 6)
             self.assertEqual(told_shorter(space, 2, 1, lengths, fewer), told)
+
+    def test_lines_and_points_of_versions(self):
+        great = 10 ** 19
+        for point in ((great,), (-great, 0), (1, 2, 3, 4)):
+            for number, made_of in product((-1, 0, 1, great), repeat=2):
+                line_of(number, (made_of, ((point,), (point,))))
+            store = Store("")
+            self.assertEqual(store.put(0, (point,)), 1)
+            self.assertEqual(store.put(1, ()), 2)
+            self.assertEqual(versions_behind(store, len(store.loose)), 3)
+            self.assertEqual(store.history.points(1), (point,))
+
+    def test_dimensions_of_turns(self):
+        for many in range(-3, 6):
+            point = tuple(range(5, 5 + many))
+            self.assertEqual(moved(point, still(many)), point)
+            for are_mirrored in (True, False):
+                turns = turns_of(many, are_mirrored)
+                self.assertEqual(turns, sorted(turns))
+                for turn in turns[::7]:
+                    is_proper(*turn)
+                    motion = turn, turned_by(point, turn)
+                    self.assertEqual(behind(motion, undone(motion)), still(many))
 
 
 if __name__ == "__main__":
