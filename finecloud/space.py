@@ -3,14 +3,17 @@
 from finecloud.errors import BadPoint, BadSpace
 from finecloud.numbers import is_between, power
 
+MOST_DIMENSIONS = 3
+MOST_BITS = 10
+
 
 class Space:
     """All points of 1 to 3 coordinates of 1 to 10 bits."""
 
     def __init__(self, dimensions, bits):
-        if not is_between(dimensions, 1, 3):
+        if not is_between(dimensions, 1, MOST_DIMENSIONS):
             raise BadSpace("dimensions")
-        if not is_between(bits, 1, 10):
+        if not is_between(bits, 1, MOST_BITS):
             raise BadSpace("bits")
         self.dimensions = dimensions
         self.bits = bits

@@ -35,6 +35,10 @@ FUNCTIONS = {
     "stores": ("line_of(number, row)", "versions_behind(store, cut)"),
     "motions": ("turned_by(point, turn)", "moved(point, motion)", "turns_of(many, are_mirrored)",
                 "is_proper(axes, signs)", "still(many)", "behind(first, second)", "undone(motion)"),
+    "shapes": ("settled(points)", "form_of(points, are_mirrored)", "are_alike(one, other, are_mirrored)",
+               "motions_to(one, other, are_mirrored)", "places_in(shape, points, are_mirrored)"),
+    "texts": ("write_cloud(cloud)", "read_cloud(text)", "write_facts(knowledge)", "read_facts(text)"),
+    "shell": ("run_script(text)",),
 }
 
 CLASSES = {
@@ -62,6 +66,7 @@ CLASSES = {
     ("errors", "BadPiece(prefix)"): (),
     ("storeerrors", "BadVersion(number)"): (),
     ("storeerrors", "BadCut(place)"): (),
+    ("texterrors", "BadText(line, word)"): (),
 }
 
 

@@ -47,8 +47,10 @@ def assigned(file):
 
 
 def defined(file):
-    """The functions and classes of a file's module level."""
-    return {node.name for node in ast.parse(file.read_text()).body if isinstance(node, (ast.FunctionDef, ast.ClassDef))}
+    """The functions, classes and plain values of a file's module level."""
+    body = ast.parse(file.read_text()).body
+    names = {node.name for node in body if isinstance(node, (ast.FunctionDef, ast.ClassDef))}
+    return names | {target.id for node in body if isinstance(node, ast.Assign) for target in node.targets}
 
 
 class Language(unittest.TestCase):
@@ -87,13 +89,19 @@ class Language(unittest.TestCase):
 
     def test_statements_and_expressions(self):
         barred = (ast.Global, ast.AsyncFunctionDef, ast.Await, ast.GeneratorExp, ast.Yield, ast.YieldFrom, ast.Lambda,
-                  ast.Starred, ast.Div, ast.Pow, ast.MatMult, ast.AnnAssign)
+                  ast.Div, ast.Pow, ast.MatMult, ast.AnnAssign)
         for file in files():
             self.assertEqual([(file, node) for node in nodes(file, *barred)], [])
             for node in nodes(file, ast.FunctionDef, ast.ClassDef):
                 self.assertEqual(node.decorator_list, [], file)
             for node in nodes(file, ast.Constant):
                 self.assertNotIsInstance(node.value, (float, complex, bytes), file)
+
+    def test_stars_stand_in_zip_only(self):
+        for file in files():
+            zips = [node for node in nodes(file, ast.Call) if isinstance(node.func, ast.Name) and node.func.id == "zip"]
+            self.assertEqual(len(nodes(file, ast.Starred)),
+                             sum(isinstance(part, ast.Starred) for node in zips for part in node.args), file)
 
     def test_names(self):
         own = set()

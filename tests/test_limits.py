@@ -15,6 +15,7 @@ from finecloud.numbers import bits_for, bits_of, choices, power
 from finecloud.pieces import Knowledge, piece_of
 from finecloud.progress import beginning, check_whole, read_code
 from finecloud.ranks import all_clouds, cloud_at, completions, whole_of
+from finecloud.shapes import are_alike, form_of, motions_to, places_in, settled
 from finecloud.space import Box, Space, is_inside
 from finecloud.stores import Store, line_of, versions_behind
 from finecloud.telling import is_enough
@@ -148,6 +149,21 @@ class Beyond(unittest.TestCase):
                     is_proper(*turn)
                     motion = turn, turned_by(point, turn)
                     self.assertEqual(behind(motion, undone(motion)), still(many))
+
+    def test_shapes_without_points(self):
+        for are_mirrored in (True, False):
+            for row in ((), ((0, 0),), ((1, 2, 3), (3, 4, 5))):
+                motions_to((), row, are_mirrored)
+                motions_to(row, (), are_mirrored)
+                places_in((), row, are_mirrored)
+        self.assertEqual(settled(()), ((), ()))
+
+    def test_shapes_of_four_dimensions(self):
+        one, other = ((0, 0, 0, 0), (0, 0, 0, 1)), ((5, 6, 7, 8), (5, 6, 8, 8))
+        self.assertTrue(are_alike(one, other, False))
+        self.assertEqual(form_of(one, True), form_of(other, True))
+        self.assertEqual(len(motions_to(one, other, True)), 96)
+        self.assertEqual(len(places_in(one, other, False)), 48)
 
 
 if __name__ == "__main__":
