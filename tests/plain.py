@@ -1,7 +1,10 @@
 """What the document says, worked out in the plainest way: slow, and with nothing of the package."""
 
+import re
 from fractions import Fraction
 from itertools import combinations, product
+
+NUMBER = re.compile("0|[1-9][0-9]{0,14}")
 
 
 def points(dimensions, bits):
@@ -111,6 +114,16 @@ def boxes(dimensions, bits):
 
 def square(one, other):
     return sum((part - beside) ** 2 for part, beside in zip(one, other))
+
+
+def wrong_word(words, limits):
+    """The place of the first word behind that at 0 that is no number within its limits; lacking ones and ones too
+    much are none, either. None if all are right."""
+    place = 0
+    for place, (least, most) in enumerate(limits, 1):
+        if place == len(words) or not NUMBER.fullmatch(words[place]) or not least <= int(words[place]) <= most:
+            return place
+    return place + 1 if len(words) > place + 1 else None
 
 
 class AllClouds:

@@ -1,13 +1,11 @@
 """Point [51]."""
 
-import re
 import unittest
 
 from finecloud.shell import run_script
 from finecloud.texterrors import BadText
 from tests import plain
 
-NUMBER = re.compile("0|[1-9][0-9]{0,14}")
 NO_NUMBERS = ("", "x", "+1", "-1", "-0", "00", "01", "1.", "1_0", "\u0661", "\xb2", "1\t", "1\r", "1" + "0" * 15,
               "9" * 16, "9" * 6000)
 
@@ -79,11 +77,9 @@ def plain_fault(text):
             limits = [(1, 3), (1, 10)] if words[0] == "space" else None
         if limits is None:
             return at, 0
-        for place, (least, most) in enumerate(limits, 1):
-            if place == len(words) or not NUMBER.fullmatch(words[place]) or not least <= int(words[place]) <= most:
-                return at, place
-        if len(words) > len(limits) + 1:
-            return at, len(limits) + 1
+        wrong = plain.wrong_word(words, limits)
+        if wrong is not None:
+            return at, wrong
         numbers = [int(word) for word in words[1:]]
         if at == 0:
             dimensions, bits = numbers

@@ -1,6 +1,5 @@
 """Point [50]."""
 
-import re
 import unittest
 
 from finecloud.clouds import Cloud, cloud_of
@@ -11,7 +10,6 @@ from finecloud.texterrors import BadText
 from finecloud.texts import read_cloud, read_facts, write_cloud, write_facts
 from tests import plain
 
-NUMBER = re.compile("0|[1-9][0-9]{0,14}")
 SIGNS = "0123 -+.x\n\t\r\xa0\xb2\u0661"
 SPACES = [(dimensions, bits) for dimensions in (1, 2, 3) for bits in (1, 2, 3, 10)]
 
@@ -23,39 +21,40 @@ NO_NUMBERS = ("", "x", "+1", "-1", "-0", "00", "01", "1.", "1e0", "0x1", "1_0", 
               "1\r", "None", "1" + "0" * 15, "0" * 16, "9" * 16, "9" * 6000)
 
 
-def is_between(word, least, most):
-    return NUMBER.fullmatch(word) is not None and least <= int(word) <= most
+def limits_of(name, words, dimensions, bits):
+    """The least and the greatest number of each word behind the first one of a line, one by one."""
+    if name == "space":
+        yield 1, 3
+        yield 1, 10
+    elif name == "point":
+        for _ in range(dimensions):
+            yield 0, 2 ** bits - 1
+    else:
+        yield 0, dimensions * bits
+        yield 0, 2 ** int(words[1]) - 1
+        yield 0, 2 ** (dimensions * bits - int(words[1]))
 
 
 def plain_fault(text, name):
     """The line and the word of the first word of a text that can't stand there; None if all can."""
     dimensions = bits = 0
-    ahead = None
+    ahead = []
     for at, line in enumerate(text.split("\n")):
         words = line.split(" ")
-        limits = []
-        if at == 0:
-            limits = [lambda: (1, 3), lambda: (1, 10)]
-        elif name == "point":
-            limits = [lambda: (0, 2 ** bits - 1)] * dimensions
-        else:
-            limits = [lambda: (0, dimensions * bits), lambda: (0, 2 ** int(words[1]) - 1),
-                      lambda: (0, 2 ** (dimensions * bits - int(words[1])))]
-        if words[0] != ("space" if at == 0 else name):
+        first = name if at > 0 else "space"
+        if words[0] != first:
             return at, 0
-        for place, limit in enumerate(limits, 1):
-            if place == len(words) or not is_between(words[place], *limit()):
-                return at, place
-        if len(words) > len(limits) + 1:
-            return at, len(limits) + 1
+        wrong = plain.wrong_word(words, limits_of(first, words, dimensions, bits))
+        if wrong is not None:
+            return at, wrong
         numbers = [int(word) for word in words[1:]]
         if at == 0:
             dimensions, bits = numbers
         else:
-            numbers = numbers if name == "point" else numbers[:2]
-            if ahead is not None and numbers <= ahead:
+            thing = numbers[:2] if name == "fact" else numbers
+            if thing <= ahead:
                 return at, 1
-            ahead = numbers
+            ahead = thing
     return None
 
 
